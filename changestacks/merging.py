@@ -36,15 +36,23 @@ def merge(base, ours, theirs):
     return (DONE, files)
 
 
-# Trees are those behind 0, 1, .. changes. Carries the changes from number
-# first up, and answers where it stops (nothing, if it doesn't) and the trees
-# that come of it.
+# Trees are those behind 0, 1, .. changes. Answers where it stops (nothing, if
+# it doesn't) and the tree that comes of it.
+def carry(trees, number, onto):
+    ending, found = merge(trees[number - 1], onto, trees[number])
+    if ending != DONE:
+        return ([ending, number, found], None)
+    return ([], found)
+
+
+# Carries the changes from number first up, each onto what came of the one
+# below. Answers where it stops (nothing, if it doesn't) and the trees that come
+# of it.
 def carry_on(trees, first, onto):
     carried = []
     for number in range(first, len(trees)):
-        ending, found = merge(trees[number - 1], onto, trees[number])
-        if ending != DONE:
-            return ([ending, number, found], [])
-        carried.append(found)
-        onto = found
+        stop, onto = carry(trees, number, onto)
+        if stop:
+            return (stop, [])
+        carried.append(onto)
     return ([], carried)

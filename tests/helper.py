@@ -1,5 +1,7 @@
 """Calls as lists of numbers, and answers taken apart call by call."""
 
+import unittest
+
 from changestacks.desk import answers
 
 MOST = 10 ** 18
@@ -42,6 +44,37 @@ def amend(i):
 
 
 REBASE = [8]
+
+
+def remove(i):
+    return [9, i]
+
+
+def fold(i):
+    return [10, i]
+
+
+def split(i, n):
+    return [11, i, n]
+
+
+def swap(i):
+    return [12, i]
+
+
+def pick(i):
+    return [13, i]
+
+
+def edits(i):
+    return [14, i]
+
+
+def both(i, j):
+    return [15, i, j]
+
+
+SIZES = [16]
 
 
 def ask(calls):
@@ -142,3 +175,74 @@ def merged_lines(base, ours, theirs):
     if answer[:2] != [1, 1]:
         raise AssertionError("stopped by something else than conflicts")
     return answer[2]
+
+
+class Numbers:
+    """An answer, taken number by number."""
+
+    def __init__(self, answer):
+        self.rest = list(answer)
+
+    def one(self):
+        return self.rest.pop(0)
+
+    def row(self):
+        return [self.one() for count in range(self.one())]
+
+    def path(self):
+        return bytes(self.row()).decode("ascii")
+
+
+def edits_after(calls, i):
+    """The edits of change i after these calls: each a tuple of its kind, its
+    path, the place if it's a hunk, and its lines."""
+    numbers = Numbers(last(calls + [edits(i)]))
+    told = []
+    for count in range(numbers.one()):
+        kind = {0: "add", 1: "del", 3: "hunk"}[numbers.one()]
+        edit = (kind, numbers.path())
+        if kind == "hunk":
+            edit += (numbers.one(), numbers.row())
+        told.append(edit + (numbers.row(),))
+    if numbers.rest:
+        raise AssertionError("more numbers than edits")
+    return told
+
+
+def both_after(calls, i, j):
+    """The paths that both tells of changes i and j after these calls."""
+    numbers = Numbers(last(calls + [both(i, j)]))
+    paths = [numbers.path() for count in range(numbers.one())]
+    if numbers.rest:
+        raise AssertionError("more numbers than paths")
+    return paths
+
+
+def tower():
+    """Each change touches a file of its own; the base has them all."""
+    trees = [{name: [0] for name in "abcd"}]
+    for number, name in enumerate("abc"):
+        tree = dict(trees[-1])
+        tree[name] = [number + 1]
+        trees.append(tree)
+    return trees
+
+
+SIX = [{"a": [i]} for i in range(7)]
+
+# What can't be a change's number, whatever stack there is.
+NO_NUMBERS = (0, -1, -2, -3, -6, 7, 8, 13, 2 ** 31, 2 ** 63, -2 ** 63, MOST - 1, MOST, 1 - MOST, -MOST)
+
+
+class StackCase(unittest.TestCase):
+    def leaves(self, calls, call, answer):
+        """The call is answered so, and nothing is changed."""
+        self.assertEqual(last(calls + [call]), answer)
+        self.assertEqual(trees_after(calls + [call]), trees_after(calls))
+        self.assertEqual(desk_after(calls + [call]), desk_after(calls))
+
+    def makes(self, calls, deed, trees):
+        """The deed is done, these trees come of it, and the desk is as it was."""
+        self.assertEqual(last(calls + [deed]), [0, len(trees) - 1])
+        self.assertEqual(trees_after(calls + [deed]), trees)
+        self.assertEqual(desk_after(calls + [deed]), desk_after(calls))

@@ -2,10 +2,8 @@
 
 import unittest
 
-from tests.helper import (BEGIN, LIST, MOST, PUSH, REBASE, amend, ask, desk_after, drop, file, last,
-                          lay, stack_of, take, trees_after)
-
-SIX = [{"a": [i]} for i in range(7)]
+from tests.helper import (BEGIN, LIST, NO_NUMBERS, PUSH, REBASE, SIX, StackCase, amend, ask,
+                          desk_after, drop, file, last, lay, stack_of, take, tower, trees_after)
 
 
 class BeginTest(unittest.TestCase):
@@ -60,31 +58,10 @@ class PushTest(unittest.TestCase):
         self.assertEqual(trees_after(calls), [{}, {"a": [1]}])
 
 
-def tower():
-    """Each change touches a file of its own; the base has them all."""
-    trees = [{name: [0] for name in "abcd"}]
-    for number, name in enumerate("abc"):
-        tree = dict(trees[-1])
-        tree[name] = [number + 1]
-        trees.append(tree)
-    return trees
-
-
-class AmendTest(unittest.TestCase):
-    def stops(self, calls, deed, answer):
-        """The deed stops with this answer, and nothing is changed."""
-        self.assertEqual(last(calls + [deed]), answer)
-        self.assertEqual(trees_after(calls + [deed]), trees_after(calls))
-        self.assertEqual(desk_after(calls + [deed]), desk_after(calls))
-
-    def amends(self, calls, i, trees):
-        self.assertEqual(last(calls + [amend(i)]), [0, len(trees) - 1])
-        self.assertEqual(trees_after(calls + [amend(i)]), trees)
-        self.assertEqual(desk_after(calls + [amend(i)]), desk_after(calls))
-
+class AmendTest(StackCase):
     def test_the_lowest_and_all_above_are_carried_on(self):
         calls = lay(stack_of(tower()), {"a": [7], "b": [0], "c": [0], "e": [8]})
-        self.amends(calls, 1, [
+        self.makes(calls, amend(1), [
             {"a": [0], "b": [0], "c": [0], "d": [0]},
             {"a": [7], "b": [0], "c": [0], "e": [8]},
             {"a": [7], "b": [2], "c": [0], "e": [8]},
@@ -92,7 +69,7 @@ class AmendTest(unittest.TestCase):
 
     def test_one_in_the_middle_leaves_those_below(self):
         calls = lay(stack_of(tower()), {"a": [1], "b": [7], "c": [0], "d": [0]})
-        self.amends(calls, 2, [
+        self.makes(calls, amend(2), [
             {"a": [0], "b": [0], "c": [0], "d": [0]},
             {"a": [1], "b": [0], "c": [0], "d": [0]},
             {"a": [1], "b": [7], "c": [0], "d": [0]},
@@ -100,21 +77,21 @@ class AmendTest(unittest.TestCase):
 
     def test_the_topmost_has_nothing_above(self):
         calls = lay(stack_of(tower()), {"z": [1]})
-        self.amends(calls, 3, tower()[:3] + [{"z": [1]}])
+        self.makes(calls, amend(3), tower()[:3] + [{"z": [1]}])
         six = lay(stack_of(SIX), {"z": [1]})
-        self.amends(six, 6, SIX[:6] + [{"z": [1]}])
+        self.makes(six, amend(6), SIX[:6] + [{"z": [1]}])
 
     def test_to_the_tree_that_it_leads_to_already(self):
         calls = stack_of(tower()) + [take(1)]
-        self.amends(calls, 1, tower())
+        self.makes(calls, amend(1), tower())
 
     def test_a_change_that_is_not_there(self):
         calls = lay(stack_of(tower()), {"z": [1]})
-        for i in (0, 4, 5, 7, -1, -3, MOST, -MOST):
-            self.stops(calls, amend(i), [-1])
-        self.stops([file("a", [1])], amend(1), [-1])
-        self.stops([file("a", [1]), BEGIN], amend(0), [-1])
-        self.stops(stack_of(SIX), amend(7), [-1])
+        for i in (4, 5, 6) + NO_NUMBERS:
+            self.leaves(calls, amend(i), [-1])
+        self.leaves([file("a", [1])], amend(1), [-1])
+        self.leaves([file("a", [1]), BEGIN], amend(0), [-1])
+        self.leaves(stack_of(SIX), amend(7), [-1])
 
     def test_the_amended_tree_stays_when_the_desk_changes(self):
         calls = lay(stack_of(tower()), {"z": [1]}) + [amend(3), file("z", [2]), file("y", [3])]
@@ -124,39 +101,39 @@ class AmendTest(unittest.TestCase):
         base = {"f": [1, 2, 3, 4, 5]}
         trees = [base, {"f": [1, 2, 3, 4, 6]}, {"f": [1, 2, 7, 4, 6]}, {"f": [8, 2, 7, 4, 6]}]
         calls = lay(stack_of(trees), {"f": [1, 2, 3, 4, 6, 9]})
-        self.amends(calls, 1, [
+        self.makes(calls, amend(1), [
             base, {"f": [1, 2, 3, 4, 6, 9]}, {"f": [1, 2, 7, 4, 6, 9]}, {"f": [8, 2, 7, 4, 6, 9]}])
 
     def test_stops_with_the_change_and_how_many_conflicts(self):
         trees = [{"f": [1, 2, 3], "g": [4]}, {"f": [1, 2, 3], "g": [5]},
                  {"f": [9, 2, 3], "g": [5]}, {"f": [9, 2, 8], "g": [6]}]
         calls = stack_of(trees)
-        self.stops(lay(calls, {"f": [7, 2, 3], "g": [5]}), amend(1), [1, 2, 1])
-        self.stops(lay(calls, {"f": [1, 2, 7], "g": [5]}), amend(1), [1, 3, 1])
-        self.stops(lay(calls, {"f": [1, 2, 7], "g": [7]}), amend(1), [1, 3, 2])
-        self.stops(lay(calls, {"f": [9, 2, 7], "g": [7]}), amend(2), [1, 3, 2])
-        self.amends(lay(calls, {"f": [9, 2, 7], "g": [7]}), 3,
-                    trees[:3] + [{"f": [9, 2, 7], "g": [7]}])
+        self.leaves(lay(calls, {"f": [7, 2, 3], "g": [5]}), amend(1), [1, 2, 1])
+        self.leaves(lay(calls, {"f": [1, 2, 7], "g": [5]}), amend(1), [1, 3, 1])
+        self.leaves(lay(calls, {"f": [1, 2, 7], "g": [7]}), amend(1), [1, 3, 2])
+        self.leaves(lay(calls, {"f": [9, 2, 7], "g": [7]}), amend(2), [1, 3, 2])
+        self.makes(lay(calls, {"f": [9, 2, 7], "g": [7]}), amend(3),
+                   trees[:3] + [{"f": [9, 2, 7], "g": [7]}])
 
     def test_stops_where_a_path_is_a_folder_of_another(self):
         calls = lay(stack_of([{}, {"b": [1]}, {"b": [1], "a": [2]}]), {"a/c": [3]})
-        self.stops(calls, amend(1), [2, 2, 4])
+        self.leaves(calls, amend(1), [2, 2, 4])
 
     def test_stops_where_there_are_too_many_files(self):
         six = {"f%d" % i: [1] for i in range(6)}
         twelve = {"f%d" % i: [1] for i in range(12)}
         calls = lay(stack_of([{}, six, twelve]), {**six, "g": [2]})
-        self.stops(calls, amend(1), [2, 2, 5])
+        self.leaves(calls, amend(1), [2, 2, 5])
 
     def test_stops_where_a_file_has_too_many_lines(self):
         base = list(range(20))
         calls = stack_of([{}, {"f": base}, {"f": base + [50]}, {"f": base + [50] * 15}])
-        self.amends(lay(calls, {"f": [60] * 5 + base}), 1, [
+        self.makes(lay(calls, {"f": [60] * 5 + base}), amend(1), [
             {}, {"f": [60] * 5 + base}, {"f": [60] * 5 + base + [50]},
             {"f": [60] * 5 + base + [50] * 15}])
-        self.stops(lay(calls, {"f": [60] * 6 + base}), amend(1), [2, 3, 6])
-        self.stops(lay(calls, {"f": [60] * 19 + base}), amend(1), [2, 3, 6])
-        self.stops(lay(calls, {"f": [60] * 20 + base}), amend(1), [2, 2, 6])
+        self.leaves(lay(calls, {"f": [60] * 6 + base}), amend(1), [2, 3, 6])
+        self.leaves(lay(calls, {"f": [60] * 19 + base}), amend(1), [2, 3, 6])
+        self.leaves(lay(calls, {"f": [60] * 20 + base}), amend(1), [2, 2, 6])
 
 
 class RebaseTest(unittest.TestCase):
